@@ -1,16 +1,15 @@
 """The calls that begin or change a pact: each answers a list of numbers, a refusal its number alone."""
 
-from mostfavoured.pact import FAVOUR, FOLLOW, MIRROR, has_state, in_union, new_pact, union_of
-from mostfavoured.pact import with_clauses, with_duty, with_unions
+from mostfavoured.pact import FAVOUR, FOLLOW, MIRROR, MOST_CLAUSES, has_state, in_union, new_pact, union_of
+from mostfavoured.pact import with_clauses, with_duty, with_laid, with_unions, without_clause
 from mostfavoured.refusals import FULL, NO_REFUSAL, NONE_THERE, NOT_IN_UNION, THERE_ALREADY, UNFIT
-from mostfavoured.refusals import refusal_of_duty, refusal_of_two
+from mostfavoured.refusals import refusal_of_laying, refusal_of_two
+from mostfavoured.taken import falls_of, taken_of_all
 
 FEWEST_STATES = 2
 MOST_STATES = 6
 FEWEST_GOODS = 1
 MOST_GOODS = 3
-HIGHEST_DUTY = 100
-MOST_CLAUSES = 16
 
 
 def mf_start(ledger, n, m):
@@ -22,11 +21,9 @@ def mf_start(ledger, n, m):
 
 def mf_duty(ledger, i, j, g, x):
     pact = ledger.pact
-    refusal = refusal_of_duty(pact, i, j, g)
+    refusal = refusal_of_laying(pact, i, j, g, x)
     if refusal != NO_REFUSAL:
         return [refusal]
-    if x > HIGHEST_DUTY:
-        return [UNFIT]
     ledger.change_to(with_duty(pact, i, j, g, x))
     return [pact.laid[g][i][j]]
 
@@ -69,9 +66,9 @@ def mf_drop(ledger, c):
     pact = ledger.pact
     if c >= len(pact.clauses):
         return [NONE_THERE]
-    left = pact.clauses[:c] + pact.clauses[c + 1:]
-    ledger.change_to(with_clauses(pact, left))
-    return [len(left)]
+    left = without_clause(pact, c)
+    ledger.change_to(left)
+    return [len(left.clauses)]
 
 
 def mf_union(ledger, i, j):
@@ -96,3 +93,12 @@ def mf_part(ledger, i, j):
     left = [pair for pair in pact.unions if pair != parted]
     ledger.change_to(with_unions(pact, left))
     return [len(left)]
+
+
+def mf_settle(ledger):
+    pact = ledger.pact
+    fell = falls_of(pact)
+    if len(fell) == 0:
+        return [THERE_ALREADY]
+    ledger.change_to(with_laid(pact, taken_of_all(pact)))
+    return [len(fell)]

@@ -4,6 +4,9 @@ FAVOUR = 1
 MIRROR = 2
 FOLLOW = 3
 
+MOST_CLAUSES = 16
+HIGHEST_DUTY = 100
+
 
 # A pact is never changed: a change makes another one, so that an earlier one stays as it was.
 # laid[g][i][j] is what state i lays down for j on good g (0 where i is j).
@@ -28,14 +31,22 @@ def copy_rows(rows):
     return [list(row) for row in rows]
 
 
+def with_laid(pact, laid):
+    return Pact(pact.states, pact.goods, laid, pact.clauses, pact.unions)
+
+
 def with_duty(pact, i, j, g, x):
     laid = [copy_rows(rows) for rows in pact.laid]
     laid[g][i][j] = x
-    return Pact(pact.states, pact.goods, laid, pact.clauses, pact.unions)
+    return with_laid(pact, laid)
 
 
 def with_clauses(pact, clauses):
     return Pact(pact.states, pact.goods, pact.laid, clauses, pact.unions)
+
+
+def without_clause(pact, c):
+    return with_clauses(pact, pact.clauses[:c] + pact.clauses[c + 1:])
 
 
 def with_unions(pact, unions):

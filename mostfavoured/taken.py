@@ -24,6 +24,18 @@ def bounds_of_all(pact):
     return pairs
 
 
+def is_kept(pact):
+    """Whether the duties, as they are laid down, keep all clauses."""
+    pairs = bounds_of_all(pact)
+    for rows in pact.laid:
+        for pair in pairs:
+            duty = pair[0]
+            bound = pair[1]
+            if rows[duty[0]][duty[1]] > rows[bound[0]][bound[1]]:
+                return False
+    return True
+
+
 def lower_once(takes, pairs):
     """Go through all pairs once, lowering in takes what is too high; whether any was."""
     fell = False
@@ -47,3 +59,25 @@ def taken_of(pact, g):
     while falling:
         falling = lower_once(takes, pairs)
     return takes
+
+
+def taken_of_all(pact):
+    return [taken_of(pact, g) for g in range(pact.goods)]
+
+
+def gaps_between(rows, others):
+    """Of each duty of one good that isn't the same in both, by how much it is more or less."""
+    gaps = []
+    for i in range(len(rows)):
+        for j in range(len(rows)):
+            if rows[i][j] != others[i][j]:
+                gaps.append(abs(rows[i][j] - others[i][j]))
+    return gaps
+
+
+def falls_of(pact):
+    """Of each duty, of all goods, of which less is taken than laid down, how much less."""
+    falls = []
+    for g in range(pact.goods):
+        falls.extend(gaps_between(pact.laid[g], taken_of(pact, g)))
+    return falls

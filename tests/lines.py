@@ -56,6 +56,54 @@ def row(i, g):
     return [11, i, g]
 
 
+def falls():
+    return [12]
+
+
+def would(i, j, g, x):
+    return [13, i, j, g, x]
+
+
+def why(i, j, g):
+    return [14, i, j, g]
+
+
+def moves(i, j, g):
+    return [15, i, j, g]
+
+
+def kept():
+    return [16]
+
+
+def settle():
+    return [17]
+
+
+def alike(i, g):
+    return [18, i, g]
+
+
+def idle():
+    return [19]
+
+
+def back():
+    return [20]
+
+
+def again():
+    return [21]
+
+
+def state():
+    return [22]
+
+
+def lay_all(n, g, x):
+    return [duty(i, j, g, x) for i, j in itertools.permutations(range(n), 2)]
+
+
 def answer_all(calls):
     """One list of answered numbers for each call; fails if what is given back has another form."""
     given = answers([number for call in calls for number in call])
@@ -86,14 +134,33 @@ def ask_everything(n, m):
     return calls
 
 
+def ask_history(n, m):
+    """Calls that bring to light all that can be taken back and done again; they come last, too."""
+    look = [state(), falls()] + [row(i, m - 1) for i in range(n)]
+    calls = list(look)
+    for step in [again()] * 21 + [back()] * 21:
+        calls += [step] + look
+    return calls
+
+
 class LineCase(unittest.TestCase):
+    def assert_same(self, given, expected, told=None):
+        """Two long lists, looked at one by one: to show how they differ as a whole may take minutes."""
+        self.assertEqual(len(given), len(expected), told)
+        for one, other in zip(given, expected):
+            self.assertEqual(one, other, told)
+
+    def assert_as_it_was(self, before, call, answer):
+        """The call behind these others, the first of them a start, answers this, and changes nothing."""
+        for ask in (ask_everything, ask_history):
+            rest = ask(before[0][1], before[0][2])
+            without = answer_all(before + rest)
+            given = answer_all(before + [call] + rest)
+            self.assertEqual(given[len(before)], answer, call)
+            self.assert_same(given[:len(before)] + given[len(before) + 1:], without, call)
+
     def assert_refused(self, before, call, number):
-        """The call behind these others, the first of them a start, is refused, and all is as it was."""
-        rest = ask_everything(before[0][1], before[0][2])
-        without = answer_all(before + rest)
-        given = answer_all(before + [call] + rest)
-        self.assertEqual(given[len(before)], [number], call)
-        self.assertEqual(given[:len(before)] + given[len(before) + 1:], without, call)
+        self.assert_as_it_was(before, call, [number])
 
     def assert_answers(self, pairs):
         """Calls one behind another, each with what it is to answer."""

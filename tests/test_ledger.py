@@ -2,7 +2,8 @@
 
 import unittest
 
-from mostfavoured.changes import mf_drop, mf_duty, mf_favour, mf_follow, mf_mirror, mf_part, mf_start, mf_union
+from mostfavoured.changes import mf_drop, mf_duty, mf_favour, mf_follow, mf_mirror, mf_part, mf_settle, mf_start
+from mostfavoured.changes import mf_union
 from mostfavoured.ledger import Ledger
 
 
@@ -42,6 +43,7 @@ class Changes(unittest.TestCase):
         self.assert_a_change(mf_drop, 1)
         self.assert_a_change(mf_union, 2, 0)
         self.assert_a_change(mf_part, 0, 2)
+        self.assert_a_change(mf_settle)
 
     def test_none_that_is_refused(self):
         mf_favour(self.ledger, 0, 1)
@@ -54,6 +56,7 @@ class Changes(unittest.TestCase):
         self.assert_no_change(mf_drop, 1)
         self.assert_no_change(mf_union, 1, 0)
         self.assert_no_change(mf_part, 0, 2)
+        self.assert_no_change(mf_settle)
         self.assert_no_change(mf_start, 7, 1)
 
     def test_the_last_twenty_are_kept(self):

@@ -2,8 +2,8 @@
 
 import unittest
 
-from lines import (HUGE, LineCase, answer_all, answer_last, ask_everything, clause, duty, favour, follow, laid,
-                   mirror, part, row, start, union)
+from lines import (HUGE, LineCase, answer_all, answer_last, ask_everything, ask_history, back, clause, duty, favour,
+                   follow, laid, mirror, part, row, start, union)
 
 # A line in which something is kept of every sort, of 4 states and 2 goods.
 FULL_LIFE = [
@@ -36,11 +36,14 @@ class Start(LineCase):
     def test_refused_again_all_stays_as_it_was(self):
         for n, m in ((1, 2), (7, 2), (4, 0), (4, 4), (0, 0), (HUGE, 2), (4, HUGE), (HUGE, HUGE)):
             self.assert_refused(FULL_LIFE, start(n, m), -22)
+            self.assert_refused(FULL_LIFE + [back(), back()], start(n, m), -22)
 
     def test_again_all_is_new(self):
         for n, m in ((4, 2), (2, 1), (6, 3)):
-            fresh = [start(n, m)] + ask_everything(n, m)
-            self.assertEqual(answer_all(FULL_LIFE + fresh)[len(FULL_LIFE):], answer_all(fresh), (n, m))
+            for ask in (ask_everything, ask_history):
+                fresh = [start(n, m)] + ask(n, m)
+                for life in (FULL_LIFE, FULL_LIFE + [back(), back()]):
+                    self.assert_same(answer_all(life + fresh)[len(life):], answer_all(fresh), (n, m))
 
     def test_again_clauses_and_unions_are_counted_anew(self):
         again = FULL_LIFE + [start(4, 2)]

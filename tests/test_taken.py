@@ -4,42 +4,9 @@ import itertools
 import random
 import unittest
 
-from lines import (LineCase, answer_all, drop, duty, favour, follow, laid, mirror, part, row, start, takes, union)
-
-FAVOUR, MIRROR, FOLLOW = 2, 3, 4
-
-
-def lay_all(n, g, x):
-    return [duty(i, j, g, x) for i, j in itertools.permutations(range(n), 2)]
-
-
-def bounded_by(clauses, unions, n):
-    """For each duty those that a clause has it be no more than, told anew from the words of the document."""
-    bounds = {pair: set() for pair in itertools.permutations(range(n), 2)}
-    for call in clauses:
-        i, j = call[1], call[2]
-        if call[0] == FAVOUR:
-            thirds = set(range(n)) - {i, j} - {k for k in range(n) if {i, k} in unions}
-            bounds[i, j] |= {(i, k) for k in thirds}
-        elif call[0] == MIRROR:
-            bounds[i, j].add((j, i))
-        else:
-            bounds[i, j].add((call[3], j))
-    return bounds
-
-
-def hung_on(bounds, pair):
-    reached = {pair}
-    ahead = [pair]
-    while ahead:
-        for other in bounds[ahead.pop()] - reached:
-            reached.add(other)
-            ahead.append(other)
-    return reached
-
-
-def least_of_all_hung_on(duties, bounds):
-    return {pair: min(duties[other] for other in hung_on(bounds, pair)) for pair in duties}
+from lines import (LineCase, answer_all, drop, duty, favour, follow, lay_all, laid, mirror, part, row, start, takes,
+                   union)
+from reckoning import bounded_by, draw, least_of_all_hung_on
 
 
 class ByHand(LineCase):
@@ -171,15 +138,6 @@ def longest_chain(n, length):
 class AgainstTheWords(LineCase):
     """Many pacts, drawn the same way each time, against the least of all duties that one hangs on."""
 
-    def draw(self, source, n, m, clauses, unions, highest):
-        pairs = list(itertools.permutations(range(n), 2))
-        every = [favour(i, j) for i, j in pairs] + [mirror(i, j) for i, j in pairs]
-        every += [follow(i, j, k) for i, j, k in itertools.permutations(range(n), 3)]
-        chosen = source.sample(every, min(clauses, len(every)))
-        joined = source.sample(list(itertools.combinations(range(n), 2)), min(unions, n * (n - 1) // 2))
-        duties = [{pair: source.randint(0, highest) for pair in pairs} for g in range(m)]
-        return chosen, joined, duties
-
     def line_of(self, n, m, chosen, joined, duties):
         calls = [start(n, m)] + chosen + [union(i, j) for i, j in joined]
         for g in range(m):
@@ -199,19 +157,19 @@ class AgainstTheWords(LineCase):
         source = random.Random(20)
         for n, m in itertools.product(range(2, 7), range(1, 4)):
             for tries in range(12):
-                drawn = self.draw(source, n, m, source.randint(0, 16), source.randint(0, 5), source.choice((3, 100)))
+                drawn = draw(source, n, m, source.randint(0, 16), source.randint(0, 5), source.choice((3, 100)))
                 self.check(n, m, *drawn)
 
     def test_six_states_with_sixteen_clauses(self):
         source = random.Random(16)
         for tries in range(60):
-            self.check(6, 3, *self.draw(source, 6, 3, 16, source.randint(0, 15), 100))
+            self.check(6, 3, *draw(source, 6, 3, 16, source.randint(0, 15), 100))
 
     def test_as_much_as_may_be(self):
         # Every other choice of duties that keeps the clauses is gone through: nowhere is it more.
         source = random.Random(3)
         for tries in range(15):
-            chosen, joined, duties = self.draw(source, 3, 1, source.randint(1, 6), source.randint(0, 2), 2)
+            chosen, joined, duties = draw(source, 3, 1, source.randint(1, 6), source.randint(0, 2), 2)
             expected, bounds = self.check(3, 1, chosen, joined, duties)
             pairs = list(duties[0])
             self.assertTrue(self.kept(expected[0], bounds))
@@ -226,7 +184,7 @@ class AgainstTheWords(LineCase):
     def test_a_clause_more_no_more_taken_and_a_union_more_no_less(self):
         source = random.Random(7)
         for tries in range(40):
-            chosen, joined, duties = self.draw(source, 5, 1, 10, 3, 100)
+            chosen, joined, duties = draw(source, 5, 1, 10, 3, 100)
             fewer = self.taken(5, chosen[:-1], joined, duties)
             whole = self.taken(5, chosen, joined, duties)
             apart = self.taken(5, chosen, joined[:-1], duties)
@@ -240,7 +198,7 @@ class AgainstTheWords(LineCase):
     def test_in_whatever_order_clauses_stand(self):
         source = random.Random(9)
         for tries in range(30):
-            chosen, joined, duties = self.draw(source, 6, 1, 16, 4, 100)
+            chosen, joined, duties = draw(source, 6, 1, 16, 4, 100)
             shuffled = source.sample(chosen, len(chosen))
             self.assertEqual(self.taken(6, shuffled, joined, duties), self.taken(6, chosen, joined, duties))
 
